@@ -1,0 +1,1 @@
+"""Texts made of texts: a sheet has rules, each gives a name to a text."""
