@@ -1,7 +1,8 @@
 """Parts the bytes of a sheet into tokens.
 
-A token is a tuple (kind, body). The kind is "name", "number" or "string", or
-the word or the sign itself; the body is a tuple of the token's bytes.
+A token is a tuple (kind, value). The kind is "name", "number" or "string", or
+the word or the sign itself. The value is a name's bytes, the number, or the
+bytes that a string stands for, bytes being a tuple; else it is None.
 """
 
 NEWLINE = 10
@@ -108,6 +109,37 @@ def kind_of(body):
     return word_or_name(body)
 
 
+def number_of(body):
+    number = 0
+    for byte in body:
+        number = number * 10 + byte - DIGIT_0
+    return number
+
+
+def string_of(body):
+    string = []
+    at = 1
+    while at < len(body) - 1:
+        if body[at] == BACKSLASH:
+            at = at + 1
+            string.append(NEWLINE if body[at] == SMALL_N else body[at])
+        else:
+            string.append(body[at])
+        at = at + 1
+    return tuple(string)
+
+
+def token_of(body):
+    kind = kind_of(body)
+    if kind == "name":
+        return kind, body
+    if kind == "number":
+        return kind, number_of(body)
+    if kind == "string":
+        return kind, string_of(body)
+    return kind, None
+
+
 def tokens_of(t):
     tokens = []
     at = 0
@@ -116,7 +148,6 @@ def tokens_of(t):
             at = at + 1
         else:
             end = token_end(t, at)
-            body = tuple(t[at:end])
-            tokens.append((kind_of(body), body))
+            tokens.append(token_of(tuple(t[at:end])))
             at = end
     return tokens

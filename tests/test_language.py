@@ -36,6 +36,7 @@ WORDS_OUT = re.compile(
     r"\b(type|typing|typing_extensions|enum|Enum|IntEnum|StrEnum|Flag|IntFlag|Generic|Protocol|ABC|ABCMeta"
     r"|namedtuple|NamedTuple|TypedDict|TYPE_CHECKING|abstractmethod)\b|dataclass|overload|contextmanager"
 )
+PYTHONS_VALUES = (str, int, list, tuple, dict, set, frozenset, bytes)
 PLAIN_NAME = re.compile(r"[A-Za-z][A-Za-z0-9_]*")
 
 
@@ -52,6 +53,15 @@ def bound_names(tree):
     names += [node.id for node in tree if isinstance(node, ast.Name) and isinstance(node.ctx, ast.Store)]
     names += [node.arg for node in tree if isinstance(node, ast.arg)]
     return names + [node.name for node in tree if isinstance(node, ast.alias)]
+
+
+def own_attributes():
+    names = []
+    for path in files():
+        for node in nodes(path):
+            if isinstance(node, ast.Attribute) and isinstance(node.ctx, ast.Store):
+                names.append(node.attr)
+    return names
 
 
 class Language(unittest.TestCase):
@@ -95,14 +105,37 @@ class Language(unittest.TestCase):
         for path in files():
             tree = nodes(path)
             bound = bound_names(tree)
-            for name in bound:
+            for name in [name for name in bound if name != "__init__"]:
                 self.assertTrue(PLAIN_NAME.fullmatch(name), name)
                 self.assertNotIn(name, vars(builtins))
             for node in tree:
                 if isinstance(node, ast.Name):
                     self.assertIn(node.id, list(PYTHONS_OWN) + bound)
                 if isinstance(node, ast.Attribute):
-                    self.assertIn(node.attr, METHODS)
+                    self.assertIn(node.attr, list(METHODS) + own_attributes())
+
+    def test_classes(self):
+        for path in files():
+            for node in nodes(path):
+                if isinstance(node, ast.ClassDef):
+                    self.assertEqual(node.decorator_list + node.keywords, [])
+                    self.assertLessEqual(len(node.bases), 1)
+                    for inner in node.body:
+                        self.assertIsInstance(inner, (ast.FunctionDef, ast.Expr, ast.Pass))
+        for name in own_attributes():
+            self.assertTrue(PLAIN_NAME.fullmatch(name), name)
+            for sort in PYTHONS_VALUES:
+                self.assertFalse(hasattr(sort, name), name)
+
+    def test_no_two_files_draw_from_one_another(self):
+        drawn = {}
+        for path in files():
+            modules = [node.module for node in nodes(path) if isinstance(node, ast.ImportFrom)]
+            drawn[path.stem] = {module.split(".", 1)[1] for module in modules}
+        while drawn:
+            free = [name for name in drawn if not drawn[name]]
+            self.assertNotEqual(free, [], drawn)
+            drawn = {name: drawn[name] - set(free) for name in drawn if name not in free}
 
 
 if __name__ == "__main__":
